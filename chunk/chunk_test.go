@@ -427,3 +427,24 @@ func scribble(c api.Chunk) {
 		c.Early[:cap(c.Early)][i] = -77
 	}
 }
+
+func TestOwnMsg(t *testing.T) {
+	for _, m := range []api.Msg{
+		{},
+		{Stream: 2, Data: []byte{}},
+		{Stream: 1, Data: []byte("ab")},
+		{Stream: -5, Data: []byte("1234567")}, // wrong ones too
+	} {
+		got := OwnMsg(m)
+		if got.Stream != m.Stream || !bytes.Equal(got.Data, m.Data) {
+			t.Errorf("OwnMsg(%v) is %v", m, got)
+		}
+	}
+	room := []byte("abSPARE")
+	got := OwnMsg(api.Msg{Data: room[:2]})
+	got.Data[0] = 'X'
+	got.Data = append(got.Data, 'Y')
+	if string(room) != "abSPARE" {
+		t.Errorf("the message is %q behind a change of its copy", room)
+	}
+}
